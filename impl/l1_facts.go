@@ -134,7 +134,11 @@ func factFits(arity []int, f Fact) bool {
 	if f.Pred < 0 || f.Pred >= len(arity) || len(f.Args) != arity[f.Pred] {
 		return false
 	}
-	for _, c := range f.Args {
+	return areConstants(f.Args)
+}
+
+func areConstants(args []int) bool {
+	for _, c := range args {
 		if c < 0 || c > MaxConst {
 			return false
 		}
