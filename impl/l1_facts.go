@@ -198,3 +198,12 @@ func constantDigits(n int, places int) []int {
 	}
 	return digits
 }
+
+// constantsNumber returns the number of which constants are the digits.
+func constantsNumber(args []int) int {
+	n := 0
+	for _, c := range args {
+		n = n*(MaxConst+1) + c
+	}
+	return n
+}
