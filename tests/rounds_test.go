@@ -518,6 +518,12 @@ func TestRoundsShareNothing(t *testing.T) {
 		"Rounds without rules":    func() []impl.Fact { return impl.Rounds(programWith(p.Arity), db)[0] },
 		"Consequences of no body": func() []impl.Fact { return impl.Consequences(growing(p.Rules[2]), db) },
 	}
+	checkCallsApart(t, calls, func() bool { return sameFacts(whole(db), wantList) && slices.Equal(programNumbers(p), wantProgram) })
+}
+
+// checkCallsApart writes to what calls return, and checks that this changes no other result, and that the arguments are as they were.
+func checkCallsApart(t *testing.T, calls map[string]func() []impl.Fact, unchanged func() bool) {
+	t.Helper()
 	for name, call := range calls {
 		first, second := call(), call()
 		want := deepCopy(first)
@@ -528,7 +534,7 @@ func TestRoundsShareNothing(t *testing.T) {
 		if !sameFacts(second, want) || !sameFacts(call(), want) {
 			t.Errorf("writing to %s changes another result", name)
 		}
-		if !sameFacts(whole(db), wantList) || !slices.Equal(programNumbers(p), wantProgram) {
+		if !unchanged() {
 			t.Fatalf("writing to %s changes an argument", name)
 		}
 		checkFactsApart(t, name, call())

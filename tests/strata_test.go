@@ -272,11 +272,7 @@ func checkLeastLayers(t *testing.T, p impl.Program) {
 
 // Programs of 4 to 24 predicates with few and with many links are held against a plain model.
 func TestStrataAgainstPlainOnes(t *testing.T) {
-	seed := uint64(5)
-	next := func(below int) int {
-		seed = seed*6364136223846793005 + 1442695040888963407
-		return int((seed >> 33) % uint64(below))
-	}
+	next := numbersFrom(5)
 	counts := map[bool]int{}
 	for range 4000 {
 		preds := 4 + next(21)
