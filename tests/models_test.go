@@ -477,13 +477,18 @@ func checkGround(t *testing.T, p impl.Program, list []impl.Fact) {
 	}
 }
 
-// As many predicates, rules and layers as there may be: each predicate has what the one ahead of it has not.
-func TestModelsOfAllLayers(t *testing.T) {
+// denyingAll has as many predicates, rules and layers as there may be: each predicate has what the one ahead of it has not.
+func denyingAll() impl.Program {
 	p := programWith(slices.Repeat([]int{2}, impl.MaxPreds))
 	for i := range impl.MaxRules {
 		pred := i % (impl.MaxPreds - 1)
 		p.Rules = append(p.Rules, rule(atom(pred+1, varW, varX), yes(0, varW, varY), yes(0, varX, varZ), yes(0, varW, varX), no(pred, varW, varX)))
 	}
+	return p
+}
+
+func TestModelsOfAllLayers(t *testing.T) {
+	p := denyingAll()
 	db := impl.AllFacts(0, 2)
 	want := db
 	for layer := range impl.MaxPreds {
@@ -518,9 +523,9 @@ func TestModelsOfAllLayers(t *testing.T) {
 	checkNoGround(t, "a rule too many", p, db)
 }
 
-// Each layer's rounds begin with what the layers ahead of it brought in many rounds.
-func TestModelsOfManyRounds(t *testing.T) {
-	const counters = 11
+// countingByLayers returns the rules of counters of two places, one for every second layer, that bring one fact a round over
+// a chain of 0: each begins when the layer between, having nothing, tells that the one ahead has come to its end.
+func countingByLayers(counters int) impl.Program {
 	p := programWith(slices.Repeat([]int{2}, 2*counters+1))
 	for i := range counters {
 		pred := 2*i + 1
@@ -534,6 +539,13 @@ func TestModelsOfManyRounds(t *testing.T) {
 			p.Rules = append(p.Rules, rule(atom(pred, 0, 0), no(pred-1, 0, 1)))
 		}
 	}
+	return p
+}
+
+// Each layer's rounds begin with what the layers ahead of it brought in many rounds.
+func TestModelsOfManyRounds(t *testing.T) {
+	const counters = 11
+	p := countingByLayers(counters)
 	db := chainOf(0, 5)
 	want := db
 	for i := range counters {
@@ -734,6 +746,16 @@ func union(a, b []impl.Fact) []impl.Fact {
 // plainModel asks, layer by layer, all rules of the layer of all facts, until there are no more.
 func plainModel(p impl.Program, db []impl.Fact, layers []int) []impl.Fact {
 	facts := db
+	for _, part := range partsOf(p, layers) {
+		rounds := plainRounds(part, facts)
+		facts = rounds[len(rounds)-1]
+	}
+	return facts
+}
+
+// partsOf returns for each layer, the least one first, the program of its rules.
+func partsOf(p impl.Program, layers []int) []impl.Program {
+	var parts []impl.Program
 	for _, layer := range slices.Compact(slices.Sorted(slices.Values(layers))) {
 		part := programWith(p.Arity)
 		for _, r := range p.Rules {
@@ -741,10 +763,9 @@ func plainModel(p impl.Program, db []impl.Fact, layers []int) []impl.Fact {
 				part.Rules = append(part.Rules, r)
 			}
 		}
-		rounds := plainRounds(part, facts)
-		facts = rounds[len(rounds)-1]
+		parts = append(parts, part)
 	}
-	return facts
+	return parts
 }
 
 // plainOfDenied returns what comes of given facts if what is denied is told of a set.

@@ -295,16 +295,8 @@ func TestRoundsOfWhatDenies(t *testing.T) {
 // The fourth promise, for all sets of the facts of a few predicates: the least facts are closed, have those that are given,
 // and stand in all closed ones that have these.
 func TestLeastStandsInAllClosedOnes(t *testing.T) {
-	arity := []int{0, 1, 0, 1}
-	all := slices.Concat(impl.AllFacts(0, 0), impl.AllFacts(1, 1)[:4], impl.AllFacts(2, 0), impl.AllFacts(3, 1)[:4])
-	programs := []impl.Program{
-		programWith(arity),
-		programWith(arity, rule(atom(1, 3)), rule(atom(3, varW), yes(1, varW), yes(0))),
-		programWith(arity, rule(atom(0), yes(1, varW), yes(3, varW)), rule(atom(3, varX), yes(1, varX), less(1, varX))),
-		programWith(arity, rule(atom(2), yes(0)), rule(atom(0), yes(2)), rule(atom(1, 0), yes(0), yes(2), yes(3, 1))),
-		programWith(arity, rule(atom(3, varW), yes(1, varW), yes(3, varX), less(varX, varW)), rule(atom(1, varW), yes(3, varW)), rule(atom(1, 3), yes(2))),
-	}
-	for _, p := range programs {
+	all := fewOfAll()
+	for _, p := range fewPrograms() {
 		for _, db := range [][]impl.Fact{nil, all[:2], {all[2], all[6]}, {all[0], all[3], all[9]}, {all[1], all[5], all[8]}} {
 			least := impl.Least(p, db)
 			if !impl.Closed(p, least) || !within(db, least) {
@@ -325,6 +317,22 @@ func TestLeastStandsInAllClosedOnes(t *testing.T) {
 				t.Fatalf("no closed facts for %v", p)
 			}
 		}
+	}
+}
+
+// fewOfAll returns ten facts of the predicates of fewPrograms, beyond which their rules say nothing of these.
+func fewOfAll() []impl.Fact {
+	return slices.Concat(impl.AllFacts(0, 0), impl.AllFacts(1, 1)[:4], impl.AllFacts(2, 0), impl.AllFacts(3, 1)[:4])
+}
+
+func fewPrograms() []impl.Program {
+	arity := []int{0, 1, 0, 1}
+	return []impl.Program{
+		programWith(arity),
+		programWith(arity, rule(atom(1, 3)), rule(atom(3, varW), yes(1, varW), yes(0))),
+		programWith(arity, rule(atom(0), yes(1, varW), yes(3, varW)), rule(atom(3, varX), yes(1, varX), less(1, varX))),
+		programWith(arity, rule(atom(2), yes(0)), rule(atom(0), yes(2)), rule(atom(1, 0), yes(0), yes(2), yes(3, 1))),
+		programWith(arity, rule(atom(3, varW), yes(1, varW), yes(3, varX), less(varX, varW)), rule(atom(1, varW), yes(3, varW)), rule(atom(1, 3), yes(2))),
 	}
 }
 
@@ -393,9 +401,9 @@ func TestConsequencesAgainstPlainOnes(t *testing.T) {
 	}
 }
 
-// Counters of two places, each begun by the end of the one ahead, bring one fact a round.
-func TestManyRounds(t *testing.T) {
-	const counters = 20
+// counting returns the rules of counters of two places, each begun by the end of the one ahead, that bring one fact a round
+// over a chain of 0 and the first fact of 1.
+func counting(counters int) impl.Program {
 	p := programWith(slices.Repeat([]int{2}, counters+1))
 	for pred := range counters {
 		p.Rules = append(p.Rules,
@@ -405,6 +413,12 @@ func TestManyRounds(t *testing.T) {
 			p.Rules = append(p.Rules, rule(atom(pred+1, 0, 0), yes(pred, 5, 5)))
 		}
 	}
+	return p
+}
+
+func TestManyRounds(t *testing.T) {
+	const counters = 20
+	p := counting(counters)
 	db := append(chainOf(0, 5), fact(1, 0, 0))
 	rounds := impl.Rounds(p, db)
 	if len(rounds) != 36*counters {
@@ -560,26 +574,39 @@ func TestRoundsShareNothingWithEachOther(t *testing.T) {
 	p := growing(append(wayRules(), rule(atom(1, 3)))...)
 	db := roomy(chainOf(2, 4))
 	want := plainRounds(p, deepCopy(db))
+	checkListsApart(t, "Rounds", func() [][]impl.Fact { return impl.Rounds(p, db) }, want)
+	got := impl.Rounds(p, db)
+	scribble(db)
+	if !sameRounds(got, want) {
+		t.Error("writing to the facts that are given changes rounds")
+	}
+}
+
+// checkListsApart writes to each list that a call returns, and to the list of these, and checks that this changes no other one,
+// and no other result.
+func checkListsApart(t *testing.T, name string, call func() [][]impl.Fact, want [][]impl.Fact) {
+	t.Helper()
+	if got := call(); !sameRounds(got, want) {
+		t.Fatalf("%s = %v, want %v", name, got, want)
+	}
 	for i := range want {
-		got := impl.Rounds(p, db)
-		scribble(got[i])
-		for j := range want {
-			if j != i && !sameFacts(got[j], want[j]) {
-				t.Errorf("the rounds %d and %d share memory", i, j)
+		first, second := call(), call()
+		checkFactsApart(t, name, call()[i])
+		scribble(first[i])
+		first[i] = want[i]
+		for _, got := range [][][]impl.Fact{first, second, call()} {
+			if !sameRounds(got, want) {
+				t.Errorf("%s: writing to the list %d changes another one", name, i)
 			}
 		}
 	}
-	first, second := impl.Rounds(p, db), impl.Rounds(p, db)
+	first, second := call(), call()
 	every := first[:cap(first)]
 	for i := range every {
 		every[i] = nil
 	}
-	if !sameRounds(second, want) {
-		t.Error("two lists of rounds share memory")
-	}
-	scribble(db)
-	if !sameRounds(second, want) {
-		t.Error("writing to the facts that are given changes rounds")
+	if !sameRounds(second, want) || !sameRounds(call(), want) {
+		t.Errorf("%s: two results share memory", name)
 	}
 }
 
