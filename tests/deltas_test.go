@@ -251,11 +251,7 @@ func TestFreshFactsOfWhatIsNone(t *testing.T) {
 		}
 	}
 	checkNoFresh(t, "facts of no predicates", impl.Program{}, []impl.Fact{{}})
-	for _, p := range []impl.Program{
-		growing(rule(atom(0), no(0))),
-		growing(rule(atom(3, varW), yes(1, varW)), rule(atom(1, varX), yes(2, varW, varX), no(1, varW))),
-		growing(rule(atom(3, varW), yes(1, varW), no(0)), rule(atom(4, 1, 2), yes(3, 2)), rule(atom(0), yes(4, varW, varX))),
-	} {
+	for _, p := range noLayers() {
 		checkNoFresh(t, "without layers", p, []impl.Fact{fact(1, 2), fact(2, 1, 2), fact(2, 2, 3)})
 		checkNoFresh(t, "without layers", p, nil)
 	}

@@ -259,15 +259,19 @@ func TestModelsOfWhatIsNone(t *testing.T) {
 	checkNoGround(t, "facts of no predicates", impl.Program{}, []impl.Fact{{}})
 }
 
-// Rules without layers say nothing, but they are ground, and facts may be supported.
-func TestModelsWithoutLayers(t *testing.T) {
-	db := []impl.Fact{fact(1, 2), fact(2, 1, 2), fact(2, 2, 3)}
-	programs := []impl.Program{
+// noLayers returns programs of growPlaces in which what is denied asks who denies it.
+func noLayers() []impl.Program {
+	return []impl.Program{
 		growing(rule(atom(0), no(0))),
 		growing(rule(atom(3, varW), yes(1, varW)), rule(atom(1, varX), yes(2, varW, varX), no(1, varW))),
 		growing(rule(atom(3, varW), yes(1, varW), no(0)), rule(atom(4, 1, 2), yes(3, 2)), rule(atom(0), yes(4, varW, varX))),
 	}
-	for _, p := range programs {
+}
+
+// Rules without layers say nothing, but they are ground, and facts may be supported.
+func TestModelsWithoutLayers(t *testing.T) {
+	db := []impl.Fact{fact(1, 2), fact(2, 1, 2), fact(2, 2, 3)}
+	for _, p := range noLayers() {
 		checkNoModel(t, "without layers", p, db)
 		if got, want := impl.GroundOf(p, db), plainGround(p, db); !sameRules(got, want) || len(got) == 0 {
 			t.Errorf("GroundOf(%v) = %v, want %v", p, got, want)
@@ -664,18 +668,27 @@ func checkTermsApart(t *testing.T, rules []impl.Rule) {
 	for _, r := range rules {
 		terms = append(terms, ruleArgs(r)...)
 	}
-	for i := range terms {
-		want := make([][]int, len(terms))
-		for j := range terms {
-			want[j] = slices.Clone(terms[j])
+	checkNumbersApart(t, terms)
+}
+
+// checkNumbersApart checks that no two lists of numbers share memory, unused capacity included.
+func checkNumbersApart(t *testing.T, lists [][]int) {
+	t.Helper()
+	for i := range lists {
+		lists[i] = lists[i][:cap(lists[i])]
+	}
+	for i := range lists {
+		want := make([][]int, len(lists))
+		for j := range lists {
+			want[j] = slices.Clone(lists[j])
 		}
-		fill(terms[i][:cap(terms[i])])
-		for j := range terms {
-			if j != i && !slices.Equal(terms[j], want[j]) {
-				t.Errorf("two atoms share memory")
+		fill(lists[i])
+		for j := range lists {
+			if j != i && !slices.Equal(lists[j], want[j]) {
+				t.Errorf("the lists %d and %d share memory", i, j)
 			}
 		}
-		copy(terms[i], want[i])
+		copy(lists[i], want[i])
 	}
 }
 
