@@ -367,8 +367,9 @@ func changedSteps(list []impl.Step, rules int, next func(int) int) []impl.Step {
 	return out
 }
 
-// The eighth promise without ProofOf, for all programs of two predicates without places, and all of three in which none asks
-// another one in both ways: steps that keep a proof one are put behind it till there are no more, and tell what rules say.
+// The eighth promise without ProofOf, for programs of two predicates without places, and of three in which none asks another one
+// in both ways, all that have layers and some that have none: steps that keep a proof one are put behind it till there are no
+// more, and tell what rules say.
 func TestProofsTellWhatRulesSay(t *testing.T) {
 	check := func(preds int, kinds int) {
 		for n := range power(kinds, preds*preds) {
